@@ -96,7 +96,9 @@ func TestExamples(t *testing.T) {
 	refuses(t, strings.Repeat("k", 31), "abc")
 }
 
-// TestVectors: RFC 8032, 7.1, but its text of 1023 bytes.
+// TestVectors: RFC 8032, 7.1, but its text of 1023 bytes. The RFC was not at hand:
+// they are from memory, the last one's public key from OpenSSL. The first three
+// stand so in the tests of crypto/ed25519, and OpenSSL signs the last one so.
 func TestVectors(t *testing.T) {
 	for _, v := range []struct{ secret, public, text, want string }{
 		{"9d61b19deffd5a60ba844af492ec2cc44449c5697b326919703bac031cae7f60", "d75a980182b10ab7d54bfed3c964073a0ee172f3daa62325af021a68f707511a", "",
